@@ -1,0 +1,1 @@
+"""Turned straight: pages that lie a little askew, sheared until they are straight."""

@@ -1,0 +1,65 @@
+"""Numbers out of their ranges are refused, those at the ends of them are not."""
+
+import unittest
+
+from pagestraight.askew import st_roll, st_shear, st_slant
+from tests.support import words_wide
+
+CALLS = (st_shear, st_slant, st_roll)
+LONGEST_LIST = 2313
+
+WRONG_K = (4097, 4098, 2147483647, 2147483648, 4294963198, 4294963199)
+WRONG_D = (0, 4097, 4294967295)
+WRONG_SIDES = (0, 257, 258, 4294967295)
+GOOD = ((1, 1, 1, 1), (4096, 4096, 256, 256), (4294963200, 1, 40, 7), (0, 3, 33, 256))
+
+
+class Refusals(unittest.TestCase):
+    def refused(self, k, d, w, h):
+        lists = [[]]
+        length = h * words_wide(w)
+        if length <= LONGEST_LIST:
+            lists.append([0] * length)
+            lists.append([4294967295] * length)
+        for call in CALLS:
+            for x in lists:
+                with self.subTest(call=call.__name__, k=k, d=d, w=w, h=h, n=len(x)):
+                    self.assertEqual(call(k, d, w, h, x), [-2])
+
+    def test_k(self):
+        for k in WRONG_K:
+            for good in GOOD:
+                self.refused(k, *good[1:])
+
+    def test_d(self):
+        for d in WRONG_D:
+            for k, good_d, w, h in GOOD:
+                self.refused(k, d, w, h)
+
+    def test_w(self):
+        for w in WRONG_SIDES:
+            for k, d, good_w, h in GOOD:
+                self.refused(k, d, w, h)
+
+    def test_h(self):
+        for h in WRONG_SIDES:
+            for k, d, w, good_h in GOOD:
+                self.refused(k, d, w, h)
+
+    def test_several_at_once(self):
+        self.refused(4097, 0, 257, 257)
+        self.refused(0, 0, 0, 0)
+        self.refused(4294967295, 4294967295, 4294967295, 4294967295)
+
+    def test_the_ends_of_the_ranges_are_not_refused(self):
+        for call in CALLS:
+            for k in (0, 1, 4096, 4294963200, 4294967295):
+                for d in (1, 4096):
+                    for w, h in ((1, 1), (1, 256), (256, 1)):
+                        with self.subTest(call=call.__name__, k=k, d=d, w=w, h=h):
+                            length = h * words_wide(w)
+                            self.assertEqual(call(k, d, w, h, [0] * length), [0] * (1 + length))
+
+
+if __name__ == "__main__":
+    unittest.main()
