@@ -1,10 +1,13 @@
-"""The calls on a page: a list of h rows of words of 32 bits, row behind row, 1 is a dot."""
+"""The calls on a page, a list of h rows of words of 32 bits, row behind row, 1 is a dot; and on a row of numbers."""
 
 WORD_BITS = 32
 WORD_LIMIT = 4294967296
 FIRST_WORD_BELOW_ZERO = 2147483648
 STEEPEST = 4096
 LARGEST_SIDE = 256
+FARTHEST_TRY = 64
+MOST_NUMBERS = 4096
+SHARP_LIMIT = 65536
 
 
 def signed(word):
@@ -53,6 +56,37 @@ def row_words(dots):
     return words
 
 
+def dots_in_column(x, w, h, c):
+    return [r for r in range(h) if dot_at(x, w, h, c, r) == 1]
+
+
+def columns_of_dots(x, w, h):
+    return [dots_in_column(x, w, h, c) for c in range(w)]
+
+
+def sheared_counts(k, d, h, columns):
+    moves = shear_moves(k, d, len(columns))
+    counts = [0] * h
+    for c in range(len(columns)):
+        for r in columns[c]:
+            row = r + moves[c]
+            if 0 <= row < h:
+                counts[row] = counts[row] + 1
+    return counts
+
+
+def sharpness(numbers):
+    return sum([(numbers[i] - numbers[i - 1]) ** 2 for i in range(1, len(numbers))])
+
+
+def slopes_to_try(m):
+    # In this order the first of as sharp ones is the nearest to 0, and of k and -k that below 0.
+    slopes = [0]
+    for k in range(1, m + 1):
+        slopes.extend([-k, k])
+    return slopes
+
+
 def st_shear(k, d, w, h, x):
     slope = signed(k)
     if not shear_in_range(slope, d, w, h):
@@ -84,3 +118,30 @@ def st_roll(k, d, w, h, x):
     for r in range(h):
         answer.extend(row_words([dot_at(x, w, h, c, (r - moves[c]) % h) for c in range(w)]))
     return answer
+
+
+def st_counts(k, d, w, h, x):
+    slope = signed(k)
+    if not shear_in_range(slope, d, w, h):
+        return [-2]
+    return [0] + sheared_counts(slope, d, h, columns_of_dots(x, w, h))
+
+
+def st_straight(m, d, w, h, x):
+    if m > FARTHEST_TRY or not shear_in_range(0, d, w, h):
+        return [-2]
+    columns = columns_of_dots(x, w, h)
+    straightest = 0
+    sharpest = -1
+    for k in slopes_to_try(m):
+        sharp = sharpness(sheared_counts(k, d, h, columns))
+        if sharp > sharpest:
+            straightest = k
+            sharpest = sharp
+    return [0, 1, straightest % WORD_LIMIT, 1, sharpest]
+
+
+def st_sharp(l):
+    if len(l) > MOST_NUMBERS or max(l, default=0) >= SHARP_LIMIT:
+        return [-2]
+    return [0, sharpness(l)]

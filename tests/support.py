@@ -1,4 +1,4 @@
-"""Pages as sets of dots, and the three shears told once more, dot by dot, to hold the program against."""
+"""Pages as sets of dots, and what the calls tell of them told once more, dot by dot, to hold the program against."""
 
 import functools
 import math
@@ -74,3 +74,18 @@ def slant_dots(k, d, w, h, dots):
 
 def roll_dots(k, d, w, h, dots):
     return {(c, (r + move(k, d, w, c)) % h) for c, r in dots}
+
+
+def counts_of_rows(w, h, dots):
+    return [sum((c, r) in dots for c in range(w)) for r in range(h)]
+
+
+def how_sharp(numbers):
+    return sum(abs(one - other) ** 2 for one, other in zip(numbers, numbers[1:]))
+
+
+def straightest(m, d, w, h, dots):
+    """The k of the sharpest counts, and how sharp they are: all k are ranked by the document's words."""
+    sharp = {k: how_sharp(counts_of_rows(w, h, shear_dots(k, d, w, h, dots))) for k in range(-m, m + 1)}
+    best = min(sharp, key=lambda k: (-sharp[k], abs(k), k))
+    return best, sharp[best]

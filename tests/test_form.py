@@ -14,6 +14,9 @@ INTERFACE = {
     "st_shear": ["k", "d", "w", "h", "x"],
     "st_slant": ["k", "d", "w", "h", "x"],
     "st_roll": ["k", "d", "w", "h", "x"],
+    "st_counts": ["k", "d", "w", "h", "x"],
+    "st_straight": ["m", "d", "w", "h", "x"],
+    "st_sharp": ["l"],
 }
 WORDS_NOT_USED = re.compile(
     r"\b(type|typing|typing_extensions|enum|Enum|IntEnum|StrEnum|Flag|IntFlag|Generic|Protocol|ABC|ABCMeta"
