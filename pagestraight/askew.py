@@ -87,6 +87,46 @@ def slopes_to_try(m):
     return slopes
 
 
+def runs_of_true(marks):
+    runs = []
+    length = 0
+    for i in range(len(marks)):
+        if marks[i]:
+            length = length + 1
+        elif length > 0:
+            runs.append((i - length, length))
+            length = 0
+    if length > 0:
+        runs.append((len(marks) - length, length))
+    return runs
+
+
+def gaps_in(l, most):
+    return runs_of_true([number <= most for number in l])
+
+
+def bands_in(l, most, least):
+    left = [True] * len(l)
+    for begin, length in gaps_in(l, most):
+        if length >= least:
+            for i in range(begin, begin + length):
+                left[i] = False
+    return runs_of_true(left)
+
+
+def tell_runs(runs):
+    begins = [begin for begin, length in runs]
+    lengths = [length for begin, length in runs]
+    return [len(runs), len(runs)] + begins + [len(runs)] + lengths
+
+
+def ahead_of_first_above(counts, most):
+    for i in range(len(counts)):
+        if counts[i] > most:
+            return i
+    return len(counts)
+
+
 def st_shear(k, d, w, h, x):
     slope = signed(k)
     if not shear_in_range(slope, d, w, h):
@@ -145,3 +185,26 @@ def st_sharp(l):
     if len(l) > MOST_NUMBERS or max(l, default=0) >= SHARP_LIMIT:
         return [-2]
     return [0, sharpness(l)]
+
+
+def st_gaps(most, l):
+    if len(l) > MOST_NUMBERS:
+        return [-2]
+    return tell_runs(gaps_in(l, most))
+
+
+def st_bands(most, least, l):
+    if len(l) > MOST_NUMBERS:
+        return [-2]
+    return tell_runs(bands_in(l, most, least))
+
+
+def st_margins(most, w, h, x):
+    if not side_in_range(w) or not side_in_range(h):
+        return [-2]
+    columns = columns_of_dots(x, w, h)
+    across = [len(rows) for rows in columns]
+    # A shear by 0 leaves every dot where it is.
+    down = sheared_counts(0, 1, h, columns)
+    sides = [across, down, list(reversed(across)), list(reversed(down))]
+    return [0] + [ahead_of_first_above(counts, most) for counts in sides]

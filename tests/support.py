@@ -2,6 +2,7 @@
 
 import functools
 import math
+import re
 from fractions import Fraction
 
 WORD_LIMIT = 2 ** 32
@@ -76,8 +77,40 @@ def roll_dots(k, d, w, h, dots):
     return {(c, (r + move(k, d, w, c)) % h) for c, r in dots}
 
 
+def drawn_numbers(most, numbers):
+    """A row of numbers as a text: '.' isn't above most, '#' is."""
+    return "".join("#" if number > most else "." for number in numbers)
+
+
+def told_pieces(pieces):
+    begins = [piece.start() for piece in pieces]
+    lengths = [len(piece.group()) for piece in pieces]
+    return [len(pieces), len(pieces)] + begins + [len(pieces)] + lengths
+
+
+def gaps(most, numbers):
+    return told_pieces(list(re.finditer(r"\.+", drawn_numbers(most, numbers))))
+
+
+def bands(most, least, numbers):
+    cut = re.sub(r"\.+", lambda gap: " " * len(gap.group()) if len(gap.group()) >= least else gap.group(),
+                 drawn_numbers(most, numbers))
+    return told_pieces(list(re.finditer(r"[^ ]+", cut)))
+
+
 def counts_of_rows(w, h, dots):
     return [sum((c, r) in dots for c in range(w)) for r in range(h)]
+
+
+def counts_of_columns(w, h, dots):
+    return [sum((c, r) in dots for r in range(h)) for c in range(w)]
+
+
+def margins(most, w, h, dots):
+    filled = [c for c, count in enumerate(counts_of_columns(w, h, dots)) if count > most]
+    written = [r for r, count in enumerate(counts_of_rows(w, h, dots)) if count > most]
+    return [min(filled, default=w), min(written, default=h),
+            w - 1 - max(filled, default=-1), h - 1 - max(written, default=-1)]
 
 
 def how_sharp(numbers):

@@ -17,6 +17,9 @@ INTERFACE = {
     "st_counts": ["k", "d", "w", "h", "x"],
     "st_straight": ["m", "d", "w", "h", "x"],
     "st_sharp": ["l"],
+    "st_gaps": ["most", "l"],
+    "st_bands": ["most", "least", "l"],
+    "st_margins": ["most", "w", "h", "x"],
 }
 WORDS_NOT_USED = re.compile(
     r"\b(type|typing|typing_extensions|enum|Enum|IntEnum|StrEnum|Flag|IntFlag|Generic|Protocol|ABC|ABCMeta"

@@ -2,7 +2,7 @@
 
 import unittest
 
-from pagestraight.askew import st_counts, st_roll, st_shear, st_slant, st_straight
+from pagestraight.askew import st_counts, st_margins, st_roll, st_shear, st_slant, st_straight
 from tests.support import ReadOnlyList, words_wide
 
 CALLS = (st_shear, st_slant, st_roll, st_counts)
@@ -108,6 +108,36 @@ class RefusalsOfStraight(unittest.TestCase):
                     with self.subTest(m=m, d=d, w=w, h=h):
                         length = h * words_wide(w)
                         self.assertEqual(st_straight(m, d, w, h, [0] * length), [0, 1, 0, 1, 0])
+
+
+class RefusalsOfMargins(unittest.TestCase):
+    def refused(self, w, h):
+        for most in (0, 1, 256, 4294967295):
+            for x in lists_to_hand_in(w, h):
+                with self.subTest(most=most, w=w, h=h, n=len(x)):
+                    self.assertEqual(st_margins(most, w, h, x), [-2])
+
+    def test_w(self):
+        for w in WRONG_SIDES:
+            for h in (1, 40, 256):
+                self.refused(w, h)
+
+    def test_h(self):
+        for h in WRONG_SIDES:
+            for w in (1, 40, 256):
+                self.refused(w, h)
+
+    def test_both_at_once(self):
+        self.refused(0, 0)
+        self.refused(257, 257)
+        self.refused(0, 4294967295)
+        self.refused(4294967295, 4294967295)
+
+    def test_the_ends_of_the_ranges_are_not_refused(self):
+        for w, h in ((1, 1), (1, 256), (256, 1), (256, 256)):
+            for most in (0, 4294967295):
+                with self.subTest(most=most, w=w, h=h):
+                    self.assertEqual(st_margins(most, w, h, [0] * (h * words_wide(w))), [0, w, h, w, h])
 
 
 if __name__ == "__main__":
