@@ -7,6 +7,7 @@ STEEPEST = 4096
 LARGEST_SIDE = 256
 FARTHEST_TRY = 64
 MOST_NUMBERS = 4096
+FARTHEST_MEAN = 4096
 SHARP_LIMIT = 65536
 
 
@@ -75,6 +76,15 @@ def sheared_counts(k, d, h, columns):
     return counts
 
 
+def counts_down(columns, h):
+    # A shear by 0 leaves every dot where it is.
+    return sheared_counts(0, 1, h, columns)
+
+
+def counts_across(columns):
+    return [len(rows) for rows in columns]
+
+
 def sharpness(numbers):
     return sum([(numbers[i] - numbers[i - 1]) ** 2 for i in range(1, len(numbers))])
 
@@ -125,6 +135,32 @@ def ahead_of_first_above(counts, most):
         if counts[i] > most:
             return i
     return len(counts)
+
+
+def sums_ahead(numbers):
+    total = 0
+    sums = [0]
+    for number in numbers:
+        total = total + number
+        sums.append(total)
+    return sums
+
+
+def means_within(l, d):
+    # With the sums ahead of each place, a wide d costs no more than a narrow one.
+    sums = sums_ahead(l)
+    means = []
+    for i in range(len(l)):
+        begin = max(i - d, 0)
+        end = min(i + d + 1, len(l))
+        means.append((sums[end] - sums[begin]) // (end - begin))
+    return means
+
+
+def places_of_hills(l):
+    # A 0 on either side stands for what is beyond the ends, so place i of l is place i + 1 here.
+    padded = [0] + l + [0]
+    return [i for i in range(len(l)) if padded[i] < padded[i + 1] and padded[i + 1] >= padded[i + 2]]
 
 
 def st_shear(k, d, w, h, x):
@@ -203,8 +239,29 @@ def st_margins(most, w, h, x):
     if not side_in_range(w) or not side_in_range(h):
         return [-2]
     columns = columns_of_dots(x, w, h)
-    across = [len(rows) for rows in columns]
-    # A shear by 0 leaves every dot where it is.
-    down = sheared_counts(0, 1, h, columns)
+    across = counts_across(columns)
+    down = counts_down(columns, h)
     sides = [across, down, list(reversed(across)), list(reversed(down))]
     return [0] + [ahead_of_first_above(counts, most) for counts in sides]
+
+
+def st_smooth(d, l):
+    if d > FARTHEST_MEAN or len(l) > MOST_NUMBERS:
+        return [-2]
+    return [0] + means_within(l, d)
+
+
+def st_hills(l):
+    if len(l) > MOST_NUMBERS:
+        return [-2]
+    places = places_of_hills(l)
+    return [len(places)] + places
+
+
+def st_upright(w, h, x):
+    if not side_in_range(w) or not side_in_range(h):
+        return [-2]
+    columns = columns_of_dots(x, w, h)
+    rows_sharp = sharpness(counts_down(columns, h))
+    columns_sharp = sharpness(counts_across(columns))
+    return [1 if columns_sharp > rows_sharp else 0, rows_sharp, columns_sharp]

@@ -20,6 +20,9 @@ INTERFACE = {
     "st_gaps": ["most", "l"],
     "st_bands": ["most", "least", "l"],
     "st_margins": ["most", "w", "h", "x"],
+    "st_smooth": ["d", "l"],
+    "st_hills": ["l"],
+    "st_upright": ["w", "h", "x"],
 }
 WORDS_NOT_USED = re.compile(
     r"\b(type|typing|typing_extensions|enum|Enum|IntEnum|StrEnum|Flag|IntFlag|Generic|Protocol|ABC|ABCMeta"

@@ -2,10 +2,11 @@
 
 import unittest
 
-from pagestraight.askew import st_counts, st_margins, st_roll, st_shear, st_slant, st_straight
+from pagestraight.askew import st_counts, st_margins, st_roll, st_shear, st_slant, st_straight, st_upright
 from tests.support import ReadOnlyList, words_wide
 
 CALLS = (st_shear, st_slant, st_roll, st_counts)
+SIDES_ALONE = (st_upright,)
 LONGEST_LIST = 2313
 
 WRONG_K = (4097, 4098, 2147483647, 2147483648, 4294963198, 4294963199)
@@ -138,6 +139,35 @@ class RefusalsOfMargins(unittest.TestCase):
             for most in (0, 4294967295):
                 with self.subTest(most=most, w=w, h=h):
                     self.assertEqual(st_margins(most, w, h, [0] * (h * words_wide(w))), [0, w, h, w, h])
+
+
+class RefusalsOfSidesAlone(unittest.TestCase):
+    def refused(self, w, h):
+        for call in SIDES_ALONE:
+            for x in lists_to_hand_in(w, h):
+                with self.subTest(call=call.__name__, w=w, h=h, n=len(x)):
+                    self.assertEqual(call(w, h, x), [-2])
+
+    def test_w(self):
+        for w in WRONG_SIDES:
+            for h in (1, 40, 255, 256):
+                self.refused(w, h)
+
+    def test_h(self):
+        for h in WRONG_SIDES:
+            for w in (1, 40, 255, 256):
+                self.refused(w, h)
+
+    def test_both_at_once(self):
+        for w in WRONG_SIDES:
+            for h in WRONG_SIDES:
+                self.refused(w, h)
+
+    def test_the_ends_of_the_ranges_are_not_refused(self):
+        for call in SIDES_ALONE:
+            for w, h in ((1, 1), (1, 256), (256, 1), (256, 256)):
+                with self.subTest(call=call.__name__, w=w, h=h):
+                    self.assertEqual(call(w, h, [0] * (h * words_wide(w)))[0], 0)
 
 
 if __name__ == "__main__":
