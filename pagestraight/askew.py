@@ -265,3 +265,17 @@ def st_upright(w, h, x):
     rows_sharp = sharpness(counts_down(columns, h))
     columns_sharp = sharpness(counts_across(columns))
     return [1 if columns_sharp > rows_sharp else 0, rows_sharp, columns_sharp]
+
+
+def st_turn(w, h, x):
+    if not side_in_range(w) or not side_in_range(h):
+        return [-2]
+    answer = [0]
+    for c in range(w):
+        # A quarter clockwise puts the last row into the first column, so a column is read from below.
+        answer.extend(row_words([dot_at(x, w, h, c, r) for r in range(h - 1, -1, -1)]))
+    return answer
+
+
+def st_shift1(w, k, d, c):
+    return [shear_move(signed(k), max(d, 1), max(w, 1), c) % WORD_LIMIT]

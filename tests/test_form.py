@@ -23,6 +23,8 @@ INTERFACE = {
     "st_smooth": ["d", "l"],
     "st_hills": ["l"],
     "st_upright": ["w", "h", "x"],
+    "st_turn": ["w", "h", "x"],
+    "st_shift1": ["w", "k", "d", "c"],
 }
 WORDS_NOT_USED = re.compile(
     r"\b(type|typing|typing_extensions|enum|Enum|IntEnum|StrEnum|Flag|IntFlag|Generic|Protocol|ABC|ABCMeta"
@@ -49,6 +51,9 @@ class Form(unittest.TestCase):
             told = inspect.signature(function).parameters.values()
             self.assertEqual([p.name for p in told], parameters)
             self.assertTrue(all(p.kind is p.POSITIONAL_OR_KEYWORD and p.default is p.empty for p in told))
+
+    def test_no_other_calls(self):
+        self.assertEqual(sorted(name for name in vars(askew) if name.startswith("st_")), sorted(INTERFACE))
 
     def test_files(self):
         for name, text in sources():

@@ -2,11 +2,13 @@
 
 import unittest
 
-from pagestraight.askew import st_counts, st_margins, st_roll, st_shear, st_slant, st_straight, st_upright
+from pagestraight.askew import (
+    st_counts, st_margins, st_roll, st_shear, st_slant, st_straight, st_turn, st_upright,
+)
 from tests.support import ReadOnlyList, words_wide
 
 CALLS = (st_shear, st_slant, st_roll, st_counts)
-SIDES_ALONE = (st_upright,)
+SIDES_ALONE = (st_upright, st_turn)
 LONGEST_LIST = 2313
 
 WRONG_K = (4097, 4098, 2147483647, 2147483648, 4294963198, 4294963199)
